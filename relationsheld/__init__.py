@@ -1,0 +1,1 @@
+"""Relations between two runs of a program, held against all inputs of a bound."""
