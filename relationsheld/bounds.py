@@ -1,9 +1,12 @@
 """The calls on one object, and their answers."""
 
+from relationsheld.findings import (all_pairs, all_verdicts, counts_against, first_cut, slack,
+                                    strongest, under_conditions, ways_that_hold)
 from relationsheld.numbering import Bound, all_inputs, how_many, numbered
 from relationsheld.reading import read_bound, read_program, read_relation, read_row
-from relationsheld.refusals import NoSuch, NotWhole, TooMany
-from relationsheld.relations import BROKEN, KEPT, OFF, Relation, judged
+from relationsheld.refusals import NoSuch, NotBroken, NotWhole, TooMany
+from relationsheld.relations import BROKEN, KEPT, OFF, SO_MANY, Relation, judged
+from relationsheld.smaller import is_broken, made_smaller
 
 MOST_GONE_THROUGH = 300
 
@@ -19,6 +22,10 @@ def counted(row):
     return [len(row)] + row
 
 
+def condition_told(condition):
+    return list(condition) if condition[0] == SO_MANY else [condition[0]]
+
+
 def what_look_tells(subject, row):
     seen = judged(subject.program, subject.relation, row)
     if seen[0] == OFF:
@@ -26,11 +33,19 @@ def what_look_tells(subject, row):
     return [seen[0]] + counted(seen[1][0]) + counted(seen[1][1])
 
 
-# The verdict at each input of the bound, in order of their numbers.
-def all_verdicts(subject):
+# The inputs of the bound, in order of their numbers, if they aren't too many to go through.
+def gone_through(subject):
     if how_many(subject.bound) > MOST_GONE_THROUGH:
         raise TooMany()
-    return [judged(subject.program, subject.relation, row)[0] for row in all_inputs(subject.bound)]
+    return all_inputs(subject.bound)
+
+
+def verdicts_of(subject):
+    return all_verdicts(subject.program, subject.relation, gone_through(subject))
+
+
+def pairs_of(subject):
+    return all_pairs(subject.program, subject.relation, gone_through(subject))
 
 
 def all_broken(verdicts):
@@ -63,19 +78,53 @@ def ask_look(subject, told):
 
 
 def ask_held(subject, told):
-    verdicts = all_verdicts(subject)
+    verdicts = verdicts_of(subject)
     broken = all_broken(verdicts)
     first = broken[0] if broken else -1
     return [verdicts.count(KEPT), len(broken), verdicts.count(OFF), first]
 
 
 def ask_breaking(subject, told):
-    broken = all_broken(all_verdicts(subject))
+    broken = all_broken(verdicts_of(subject))
     if told[0] < 0 or told[0] >= len(broken):
         raise NoSuch()
     number = broken[told[0]]
     row = numbered(subject.bound, number)
     return [number] + counted(row) + what_look_tells(subject, row)
+
+
+def ask_stand(subject, told):
+    ways = ways_that_hold(pairs_of(subject))
+    return counted(ways) + counted(strongest(ways))
+
+
+def ask_conds(subject, told):
+    answered = []
+    for counts in under_conditions(subject.program, subject.relation, gone_through(subject)):
+        answered.extend(counts)
+    return answered
+
+
+def ask_cut(subject, told):
+    condition = first_cut(subject.program, subject.relation, gone_through(subject))
+    return [0] if condition is None else [1] + condition_told(condition)
+
+
+def ask_slack(subject, told):
+    ends = slack(pairs_of(subject))
+    return [0] if ends is None else [1, ends[0], ends[1]]
+
+
+def ask_shrink(subject, told):
+    row = read_row(told)
+    if not is_broken(subject.program, subject.relation, row):
+        raise NotBroken()
+    return counted(made_smaller(subject.program, subject.relation, row))
+
+
+def ask_against(subject, told):
+    other = read_relation(told)
+    return counts_against(subject.program, subject.relation, other, gone_through(subject))
 
 
 CALLS = {
@@ -86,10 +135,16 @@ CALLS = {
     4: ask_look,
     5: ask_held,
     6: ask_breaking,
+    7: ask_stand,
+    8: ask_conds,
+    9: ask_cut,
+    10: ask_slack,
+    11: ask_shrink,
+    12: ask_against,
 }
 
 # What is handed over with a call: one list behind its length, or one number; else nothing.
-CALLS_WITH_LIST = (0, 1, 2, 4)
+CALLS_WITH_LIST = (0, 1, 2, 4, 11, 12)
 CALLS_WITH_NUMBER = (3, 6)
 
 
@@ -109,6 +164,8 @@ def answer(subject, call, told):
         return [-1]
     except NoSuch:
         return [-2]
+    except NotBroken:
+        return [-4]
     except TooMany:
         return [-7]
 

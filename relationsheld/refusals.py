@@ -14,3 +14,8 @@ class NoSuch(Exception):
 # The bound has more inputs than a call goes through: -7.
 class TooMany(Exception):
     pass
+
+
+# The relation isn't broken at the row: -4.
+class NotBroken(Exception):
+    pass

@@ -4,6 +4,10 @@ from relationsheld.bounds import answers
 
 FAR = 10 ** 18
 HELD = [5]
+STAND = [7]
+CONDS = [8]
+CUT = [9]
+SLACK = [10]
 
 # The steps' numbers, as the document gives them.
 ADD, TIMES, REST, ABS, SORT, REVERSE, ROTATE, TAKE, DROP = range(9)
@@ -36,6 +40,18 @@ def look_at(row):
 
 def breaking(n):
     return [6, n]
+
+
+def shrink(*told):
+    return [11, len(told), *told]
+
+
+def shrink_row(row):
+    return shrink(len(row), *row)
+
+
+def against(*told):
+    return [12, len(told), *told]
 
 
 def parted(answered):

@@ -101,6 +101,19 @@ class Language(unittest.TestCase):
             names = top_names(tree)
             self.assertEqual(len(names), len(set(names)), stem)
 
+    def test_values_of_tops_are_plain(self):
+        plain = (ast.Constant, ast.Tuple, ast.List, ast.Dict, ast.UnaryOp, ast.unaryop, ast.expr_context)
+        for stem, tree in self.trees.items():
+            defined = []
+            for node in tree.body:
+                if isinstance(node, ast.FunctionDef):
+                    defined.append(node.name)
+                for part in ast.walk(node.value) if isinstance(node, ast.Assign) else ():
+                    if isinstance(part, ast.Name):
+                        self.assertIn(part.id, defined, (stem, node.lineno))
+                    else:
+                        self.assertIsInstance(part, plain, (stem, node.lineno))
+
     def test_functions_and_classes(self):
         for stem, node in self.nodes(ast.FunctionDef):
             told = node.args

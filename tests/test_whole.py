@@ -2,8 +2,8 @@
 
 import unittest
 
-from tests.calling import (ADD, FAR, HELD, REVERSE, SUMS, TWICE, ask, bound, breaking, look,
-                           look_at, numbered, program, relation)
+from tests.calling import (ADD, FAR, HELD, REVERSE, SUMS, TWICE, against, ask, bound, breaking, look,
+                           look_at, numbered, program, relation, shrink)
 
 # A state unlike the one at the beginning, and what shows all of it.
 TOLD = (program(2, SUMS, ADD, 5), relation(1, 1, REVERSE, 3, 1, ADD, 2), bound(2, -1, 2))
@@ -78,6 +78,12 @@ class Refused(unittest.TestCase):
     def test_rows(self):
         self.check(look, NOT_ROWS)
 
+    def test_rows_to_be_made_smaller(self):
+        self.check(shrink, NOT_ROWS)
+
+    def test_relations_against_the_own_one(self):
+        self.check(against, NOT_RELATIONS)
+
 
 class NumbersOfSteps(unittest.TestCase):
     def test_ends(self):
@@ -110,6 +116,13 @@ class Whole(unittest.TestCase):
                 self.assertEqual(ask(relation(*condition, 0, way, 0)), [[0, 0]], (condition, way))
         self.assertEqual(ask(relation(0, 2, 4, 5, 0, 3, 4, 5, 4)), [[2, 3]])
         self.assertEqual(ask(relation(5, 9, 8, *(8 * [0, 9]), 6, 8, *(8 * [0, 9]))), [[8, 8]])
+
+    def test_relations_against_the_own_one(self):
+        for condition in ((0,), (1,), (2,), (3,), (4,), (5, 0), (5, 9)):
+            for way in range(7):
+                kept = 0 if condition in ((1,), (5, 9)) else 1
+                self.assertEqual(ask(against(*condition, 0, way, 0)), [[kept, 0, 0, 0]], (condition, way))
+        self.assertEqual(ask(against(5, 0, 8, *(8 * [0, 9]), 6, 8, *(8 * [0, 9]))), [[1, 0, 0, 0]])
 
     def test_rows(self):
         self.assertEqual(ask(look(0)), [[0, 0, 0]])
